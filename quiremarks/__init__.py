@@ -1,0 +1,1 @@
+"""Quiremarks: what the marks of leaves tell of the gatherings of a book."""

@@ -1,0 +1,48 @@
+"""The names and the parameters of the interface, each in the file under which the document lists it."""
+
+import ast
+import importlib
+import unittest
+from pathlib import Path
+
+ROOT = Path(__file__).resolve().parent.parent
+BOOK = ("paper", "sequence")
+TWO = ("paper", "first", "second")
+INTERFACE = {
+    "papers": {
+        "is_paper": ("value",), "is_sequence": ("paper", "value"), "reflected": BOOK, "own_marks": ("paper",),
+        "mark_pairs": ("paper",),
+    },
+    "alike": {
+        "count_renamings": ("paper",), "nth_renaming": ("paper", "index"), "first_alike": BOOK, "count_alike": BOOK,
+        "renaming": TWO, "accepts_renaming": (*TWO, "value"),
+    },
+}
+ERRORS = {"QuireError": "ValueError", "BadValue": "QuireError", "TooLarge": "QuireError", "NotPossible": "QuireError",
+          "TextError": "QuireError"}
+
+
+def top_level(module, kind):
+    tree = ast.parse((ROOT / "quiremarks" / f"{module}.py").read_text(encoding="utf-8"))
+    return {node.name: node for node in tree.body if isinstance(node, kind)}
+
+
+class InterfaceTest(unittest.TestCase):
+    def test_each_function_is_defined_in_its_file_with_its_parameters(self):
+        for module, functions in INTERFACE.items():
+            defined = top_level(module, ast.FunctionDef)
+            imported = importlib.import_module(f"quiremarks.{module}")
+            for name, parameters in functions.items():
+                with self.subTest(module=module, name=name):
+                    found = defined[name].args
+                    self.assertEqual(tuple(arg.arg for arg in found.args), parameters)
+                    self.assertEqual(found.defaults, [])
+                    self.assertTrue(callable(getattr(imported, name)))
+
+    def test_each_error_is_defined_in_errors(self):
+        defined = top_level("errors", ast.ClassDef)
+        self.assertEqual({name: node.bases[0].id for name, node in defined.items()}, ERRORS)
+
+
+if __name__ == "__main__":
+    unittest.main()
