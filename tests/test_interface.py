@@ -17,6 +17,21 @@ INTERFACE = {
         "count_renamings": ("paper",), "nth_renaming": ("paper", "index"), "first_alike": BOOK, "count_alike": BOOK,
         "renaming": TWO, "accepts_renaming": (*TWO, "value"),
     },
+    "gatherings": {
+        "is_gathering": BOOK, "mismatch": BOOK, "accepts_mismatch": (*BOOK, "value"), "sheets": BOOK,
+        "doubled": BOOK, "closed": BOOK,
+    },
+    "centers": {
+        "radius": (*BOOK, "opening"), "radii": BOOK, "gatherings_within": BOOK, "largest_within": BOOK,
+    },
+    "factors": {
+        "split": BOOK, "ends": BOOK, "closing_mark": BOOK, "appended": BOOK, "prepended": BOOK, "completion": BOOK,
+    },
+    "collations": {
+        "is_collation": (*BOOK, "value"), "count_collations": BOOK, "count_with": (*BOOK, "many"),
+        "nth_collation": (*BOOK, "index"), "index_of_collation": (*BOOK, "value"),
+        "next_collation": (*BOOK, "collation"), "fewest": BOOK, "largest": BOOK,
+    },
 }
 ERRORS = {"QuireError": "ValueError", "BadValue": "QuireError", "TooLarge": "QuireError", "NotPossible": "QuireError",
           "TextError": "QuireError"}
