@@ -7,7 +7,7 @@ own marks and whole pairs: each choice leaves equally many renamings.
 
 from math import factorial
 
-from quiremarks.checks import check_between, is_between
+from quiremarks.checks import are_between, check_between
 from quiremarks.papers import check_book, check_paper, check_sequence, mark_pairs, own_marks
 
 
@@ -115,12 +115,9 @@ def renaming(paper, first, second):
 
 def is_renaming(paper, value):
     """Tell whether the value is a renaming of the paper."""
-    if type(value) is not tuple or len(value) != len(paper):
+    if not are_between(value, 0, len(paper) - 1):
         return False
-    last = len(paper) - 1
-    if not all([is_between(mark, 0, last) for mark in value]):
-        return False
-    if len(set(value)) != len(value):
+    if len(value) != len(paper) or len(set(value)) != len(value):
         return False
     return all([value[paper[mark]] == paper[value[mark]] for mark in range(len(paper))])
 

@@ -1,4 +1,4 @@
-"""Checks of integers, which every chapter needs."""
+"""Checks of the plainest forms of values, which every chapter needs."""
 
 from quiremarks.errors import BadValue
 
@@ -7,6 +7,16 @@ def is_between(value, low, high):
     """Tell whether the value is an integer from low to high."""
     # isinstance would take True and False for integers.
     return type(value) is int and low <= value <= high
+
+
+def are_between(value, low, high):
+    """Tell whether the value is a tuple of integers from low to high."""
+    return type(value) is tuple and all([is_between(item, low, high) for item in value])
+
+
+def is_told(value, word, many):
+    """Tell whether the value is a tuple of so many items, of which the word is the first one."""
+    return type(value) is tuple and len(value) == many and type(value[0]) is str and value[0] == word
 
 
 def check_between(name, value, low, high):

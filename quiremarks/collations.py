@@ -1,6 +1,6 @@
 """Collations: all divisions of a sequence into gatherings, counted and by index."""
 
-from quiremarks.checks import check_between, is_between
+from quiremarks.checks import are_between, check_between
 from quiremarks.errors import BadValue
 from quiremarks.folds import is_fold
 from quiremarks.papers import check_book
@@ -8,19 +8,22 @@ from quiremarks.papers import check_book
 MOST_GATHERINGS = 8
 
 
-def divides(paper, sequence, value):
-    """Tell whether the value is a collation of the sequence."""
-    if type(value) is not tuple:
-        return False
-    most = len(sequence) // 2
-    if not all([is_between(many, 1, most) for many in value]):
-        return False
+def opening_behind(paper, sequence, value):
+    """Return the opening behind the first leaves of which the value is a collation, or None if it is none of them."""
+    if not are_between(value, 1, len(sequence) // 2):
+        return None
     begin = 0
     for many in value:
-        if not is_fold(paper, sequence[begin:begin + 2 * many]):
-            return False
-        begin = begin + 2 * many
-    return begin == len(sequence)
+        end = begin + 2 * many
+        if end > len(sequence) or not is_fold(paper, sequence[begin:end]):
+            return None
+        begin = end
+    return begin
+
+
+def divides(paper, sequence, value):
+    """Tell whether the value is a collation of the sequence."""
+    return opening_behind(paper, sequence, value) == len(sequence)
 
 
 def fold_ends(paper, sequence, begin):
@@ -33,6 +36,15 @@ def counts_behind(paper, sequence):
     counts = [0] * len(sequence) + [1]
     for begin in reversed(range(len(sequence))):
         counts[begin] = sum([counts[end] for end in fold_ends(paper, sequence, begin)])
+    return counts
+
+
+def counts_ahead(paper, sequence):
+    """Return, for each opening, the number of the collations of the leaves ahead of it."""
+    counts = [1] + [0] * len(sequence)
+    for begin in range(len(sequence)):
+        for end in fold_ends(paper, sequence, begin):
+            counts[end] = counts[end] + counts[begin]
     return counts
 
 

@@ -24,6 +24,12 @@ def split_leaves(paper, leaves):
     return tuple(found), rest
 
 
+def split_sheets(paper, leaves):
+    """Return the pair of the tuple of the numbers of sheets of the factors and the remainder."""
+    factors, rest = split_leaves(paper, leaves)
+    return tuple([len(factor) // 2 for factor in factors]), rest
+
+
 def appended_leaves(paper, leaves):
     """Return the fewest leaves that make the leaves collatable, put behind them."""
     _, rest = split_leaves(paper, leaves)

@@ -17,6 +17,32 @@ def is_fold(paper, leaves):
     return leaves == mirrored(paper, leaves)
 
 
+def folded_pairs(begin, end):
+    """Return the list of the pairs of leaves that a gathering of these leaves has, from the outermost sheet inward."""
+    return [(leaf, begin + end - 1 - leaf) for leaf in range(begin, (begin + end) // 2)]
+
+
+def are_counterparts(paper, leaves, leaf, other):
+    """Tell whether the marks of the two leaves are counterparts."""
+    return paper[leaves[leaf]] == leaves[other]
+
+
+def misfits(paper, leaves, begin, end):
+    """Return the list of those of these pairs whose marks are no counterparts."""
+    pairs = folded_pairs(begin, end)
+    return [(leaf, other) for leaf, other in pairs if not are_counterparts(paper, leaves, leaf, other)]
+
+
+def misfits_of_all(paper, leaves, sheets):
+    """Return the list of the misfits of gatherings of so many sheets, one behind another."""
+    found = []
+    begin = 0
+    for many in sheets:
+        found.extend(misfits(paper, leaves, begin, begin + 2 * many))
+        begin = begin + 2 * many
+    return found
+
+
 def closing_leaves(paper, leaves):
     """Return the fewest leaves that make a gathering of the leaves, put behind them."""
     # The earlier the gathering at the end begins, the fewer leaves are to be repeated.

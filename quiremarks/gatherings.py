@@ -1,8 +1,8 @@
 """Gatherings: their sheets, why a sequence is none, and how it becomes one."""
 
-from quiremarks.checks import is_between
+from quiremarks.checks import are_between
 from quiremarks.errors import NotPossible, TooLarge
-from quiremarks.folds import closing_leaves, is_fold, mirrored
+from quiremarks.folds import are_counterparts, closing_leaves, folded_pairs, is_fold, mirrored, misfits
 from quiremarks.papers import MOST_LEAVES, check_book
 
 
@@ -12,17 +12,6 @@ def is_gathering(paper, sequence):
     return is_fold(paper, sequence)
 
 
-def folded_pairs(sequence):
-    """Return the pairs of leaves equally far from both ends, from the outermost inward."""
-    last = len(sequence) - 1
-    return tuple([(leaf, last - leaf) for leaf in range(len(sequence) // 2)])
-
-
-def are_counterparts(paper, sequence, leaf, other):
-    """Tell whether the marks of the two leaves are counterparts."""
-    return paper[sequence[leaf]] == sequence[other]
-
-
 def mismatch(paper, sequence):
     """Return the told mismatch, or None if the sequence is a gathering."""
     check_book(paper, sequence)
@@ -30,19 +19,17 @@ def mismatch(paper, sequence):
         return ()
     if len(sequence) % 2 == 1:
         return (len(sequence) // 2,)
-    for leaf, other in folded_pairs(sequence):
-        if not are_counterparts(paper, sequence, leaf, other):
-            return (leaf, other)
-    return None
+    found = misfits(paper, sequence, 0, len(sequence))
+    if len(found) == 0:
+        return None
+    return found[0]
 
 
 def accepts_mismatch(paper, sequence, value):
     """Tell whether the value is a mismatch of the sequence."""
     check_book(paper, sequence)
     many = len(sequence)
-    if type(value) is not tuple or len(value) > 2:
-        return False
-    if not all([is_between(leaf, 0, many - 1) for leaf in value]):
+    if not are_between(value, 0, many - 1) or len(value) > 2:
         return False
     if len(value) == 0:
         return many == 0
@@ -59,7 +46,7 @@ def sheets(paper, sequence):
     check_book(paper, sequence)
     if not is_fold(paper, sequence):
         raise NotPossible("gathering")
-    return folded_pairs(sequence)
+    return tuple(folded_pairs(0, len(sequence)))
 
 
 def doubled(paper, sequence):

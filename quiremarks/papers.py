@@ -1,6 +1,6 @@
 """Papers, and the sequences of their marks."""
 
-from quiremarks.checks import is_between
+from quiremarks.checks import are_between
 from quiremarks.errors import BadValue
 from quiremarks.folds import mirrored
 
@@ -12,8 +12,7 @@ def is_paper(value):
     """Tell whether the value is a paper."""
     if type(value) is not tuple or not 1 <= len(value) <= MOST_MARKS:
         return False
-    last = len(value) - 1
-    if not all([is_between(mark, 0, last) for mark in value]):
+    if not are_between(value, 0, len(value) - 1):
         return False
     return all([value[value[mark]] == mark for mark in range(len(value))])
 
@@ -22,8 +21,7 @@ def is_sequence(paper, value):
     """Tell whether the value is a sequence of the paper, which is not checked."""
     if type(value) is not tuple or len(value) > MOST_LEAVES:
         return False
-    last = len(paper) - 1
-    return all([is_between(mark, 0, last) for mark in value])
+    return are_between(value, 0, len(paper) - 1)
 
 
 def check_paper(paper):

@@ -2,7 +2,7 @@
 
 from itertools import permutations, product
 
-from quiremarks.errors import BadValue
+from quiremarks.errors import BadValue, NotPossible
 
 
 def nested(depth, kind=tuple):
@@ -16,10 +16,21 @@ def nested(depth, kind=tuple):
 DEEP = nested(100000)
 DEEP_LIST = nested(100000, list)
 
+
+
+class Anything:
+    """An object that says of itself to equal all others, which is none of what the document names."""
+
+    def __eq__(self, other):
+        return True
+
+    __hash__ = None
+
+
 # Values that are neither papers nor sequences of any paper, indexes or openings.
 OTHER_KINDS = [
     None, True, False, -1, "", "a", "01", [], [0], [[0]], {}, (None,), ("0",), (True,), (False,), ((0,),), ([0],),
-    ((),), (-1,), (10 ** 30,), DEEP, DEEP_LIST, (0, DEEP), (DEEP, 0),
+    ((),), (-1,), (10 ** 30,), DEEP, DEEP_LIST, (0, DEEP), (DEEP, 0), Anything(), (Anything(),),
 ]
 
 
@@ -106,6 +117,106 @@ def is_collatable(paper, leaves, known={}):
     return known[key]
 
 
+PATTERNS = [(2,), (0, 1), (0, 1, 1, 0), (0, 0, 1, 1), (2, 2, 0, 1), (0, 2, 2, 1), (0, 1, 2)]
+
+
+def folded(paper, pattern, collation):
+    """A sequence with this collation, whose gatherings begin with the marks of the pattern."""
+    sequence = ()
+    for sheets in collation:
+        half = (pattern * 8)[:sheets]
+        sequence += half + mirror(paper, half)
+    return sequence
+
+
+def book_cases():
+    """Papers and sequences of all lengths up to 16, with all of their collations: none, one, few or many."""
+    paper = (1, 0, 2)
+    found = [(small, sequence) for small in all_papers(2) for sequence in all_sequences(small, 6)]
+    for pattern in PATTERNS:
+        for many in range(17):
+            sequence = (pattern * 16)[:many]
+            found += [(paper, sequence), (paper, sequence[:-1] + (0,)), (paper, (1, *sequence)[:many])]
+    for pattern in PATTERNS[:5]:
+        for sheets in range(6, 9):
+            found += [(paper, folded(paper, pattern, collation)) for collation in compositions(sheets)[::5]]
+    return [(paper, sequence, all_collations(paper, sequence)) for paper, sequence in dict.fromkeys(found)]
+
+
+def copies_cases():
+    """One to three copies of up to 16 leaves, with all of their common collations."""
+    small = [(paper, sequence) for paper in all_papers(2) for sequence in all_sequences(paper, 4)]
+    marks = (1, 0, 2)
+    long = [
+        (marks, folded(marks, pattern, collation))
+        for pattern in PATTERNS[:4] for collation in [(1,) * 6, (2, 2, 2), (3, 3), (1, 2, 2, 1), (6,), (1, 4, 1)]
+    ]
+    longest = [((0,), (0,) * 16), (marks, (2,) * 16), (marks, (0, 1) * 8), (marks, (0, 1, 2, 2) * 4), ((1, 0), (0,) * 16)]
+    pair = (1, 0)
+    three = [(pair, (0, 1, 0, 1, 1, 0, 1, 0)), (pair, (0, 1, 1, 0, 1, 0, 0, 1)), (pair, (0, 0, 1, 1, 0, 0, 1, 1))]
+    three.append(((0,), (0,) * 8))
+    found = [(copy,) for copy in small + long + longest]
+    for copies in (small, long, longest, three):
+        found += [(first, second) for first in copies for second in copies]
+    for copies in (small[::3], long[::3], longest[:4], three):
+        found += list(product(copies, repeat=3))
+    known = {}
+    cases = []
+    for copies in dict.fromkeys(found):
+        if len({len(sequence) for _, sequence in copies}) == 1:
+            for copy in copies:
+                if copy not in known:
+                    known[copy] = all_collations(*copy)
+            common = [row for row in known[copies[0]] if all(row in known[copy] for copy in copies)]
+            cases.append((copies, common))
+    return cases
+
+
+def written(value, depth=8):
+    """The value as a string in which True is not 1 and a list no tuple."""
+    if type(value) not in (tuple, list):
+        return repr(value)
+    if depth == 0:
+        return "deep"
+    return type(value).__name__ + "(" + ", ".join([written(item, depth - 1) for item in value]) + ")"
+
+
+def variants(value):
+    """Values that differ from this one at one place: by one, in kind, left out, put in, exchanged, nested."""
+    yield from [None, True, False, -1, 0, 1, "", "a", (), [], (0,), [0], {}, DEEP, DEEP_LIST, Anything()]
+    if type(value) is int:
+        yield from [value + 1, value - 1, value + 10 ** 30, -value, bool(value), str(value), (value,), [value]]
+    if type(value) is str:
+        yield from [value.upper(), value + " ", value[:-1], value.encode(), (value,), [value], [*value]]
+    if type(value) is tuple:
+        yield from [list(value), value + value, (value,), [value], value + ((),), value + (0,), value[::-1]]
+        for place in range(len(value)):
+            yield value[:place] + value[place + 1:]
+            yield value[:place + 1] + value[place:]
+            if place > 0:
+                yield value[:place - 1] + (value[place], value[place - 1]) + value[place + 1:]
+            for item in variants(value[place]):
+                yield value[:place] + (item,) + value[place + 1:]
+
+
+def assert_judge(case, judge, arguments, right, values):
+    """Of the values, the judge takes just those that are written like one of the right ones."""
+    known = {written(value) for value in right}
+    for value in values:
+        if judge(*arguments, value) is not (written(value) in known):
+            case.fail(f"{judge.__name__} {arguments} of {written(value)}")
+
+
+def assert_not_possible(case, why, function, arguments):
+    """The call raises NotPossible with the word."""
+    try:
+        function(*arguments)
+    except NotPossible as error:
+        case.assertEqual(error.why, why)
+        return
+    case.fail(f"{function.__name__} found it possible")
+
+
 def wrong_papers():
     """Values that are no papers."""
     return [
@@ -123,10 +234,26 @@ def wrong_sequences(paper):
     ]
 
 
+def wrong_copies():
+    """Values that are no copies."""
+    good, other = ((1, 0), (0, 1, 0, 1)), ((0, 1, 2), (2, 2, 0, 0))
+    found = [
+        *OTHER_KINDS, (), good, (good, other, good, other), [good], (list(good),), (good, list(other)), (good[:1],),
+        (good + good,), ((), good), (good, ()), (good, None), (None, good), (good, DEEP), (DEEP, good), ((DEEP, DEEP),),
+        (good, ((1, 0), (0, 1))), (((1, 0), (0, 1)), good), (good, other, ((0,), ())), (((0,), ()), good),
+        (good, other, ((0,), (0,) * 6)), (((0,), (0,) * 17),), (good[::-1],), {0: good}, ("ab", "cd"), (good, 1),
+    ]
+    for paper in wrong_papers():
+        found += [((paper, good[1]),), (good, (paper, other[1])), (good, other, (paper, good[1]))]
+    for sequence in wrong_sequences((1, 0)):
+        found += [((good[0], sequence),), (good, (good[0], sequence)), (other, good, (good[0], sequence))]
+    return found
+
+
 def wrong_integers(low, high):
     """Values that are no integers from low to high."""
     return [
-        None, True, False, "", "0", "1", [], [0], (), (0,), DEEP, DEEP_LIST, low - 1, high + 1, low - 100, high + 100,
+        None, True, False, "", "0", "1", [], [0], (), (0,), DEEP, DEEP_LIST, Anything(), low - 1, high + 1, low - 100, high + 100,
         -10 ** 30, 10 ** 30,
     ]
 

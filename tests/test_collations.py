@@ -1,9 +1,8 @@
 import unittest
-from itertools import product
 
 from helper import (
-    DEEP, DEEP_LIST, OTHER_KINDS, all_collations, all_papers, all_renamings, all_sequences, assert_bad,
-    assert_checks, compositions, mirror, parts, renamed, renamed_paper, wrong_integers, wrong_papers, wrong_sequences,
+    DEEP, DEEP_LIST, OTHER_KINDS, all_papers, all_renamings, all_sequences, assert_bad, assert_checks, book_cases,
+    compositions, mirror, parts, renamed, renamed_paper, wrong_integers, wrong_papers, wrong_sequences,
 )
 from quiremarks.collations import (
     count_collations, count_with, fewest, index_of_collation, is_collation, largest, next_collation, nth_collation,
@@ -13,32 +12,7 @@ from quiremarks.factors import split
 PAPER = (1, 0, 2)
 TWOS = (2, 2, 2, 2, 2, 2)
 EIGHT = (0, 1, 2, 2, 0, 1, 2, 2)
-PATTERNS = [(2,), (0, 1), (0, 1, 1, 0), (0, 0, 1, 1), (2, 2, 0, 1), (0, 2, 2, 1), (0, 1, 2)]
-
-
-def folded(paper, pattern, collation):
-    """A sequence with this collation, whose gatherings begin with the marks of the pattern."""
-    sequence = ()
-    for sheets in collation:
-        half = (pattern * 8)[:sheets]
-        sequence += half + mirror(paper, half)
-    return sequence
-
-
-def cases():
-    """Papers and sequences of all lengths up to 16, collatable ones with many or with few collations, and others."""
-    found = [(paper, sequence) for paper in all_papers(2) for sequence in all_sequences(paper, 6)]
-    for pattern in PATTERNS:
-        for many in range(17):
-            sequence = (pattern * 16)[:many]
-            found += [(PAPER, sequence), (PAPER, sequence[:-1] + (0,)), (PAPER, (1, *sequence)[:many])]
-    for pattern in PATTERNS[:5]:
-        for sheets in range(6, 9):
-            found += [(PAPER, folded(PAPER, pattern, collation)) for collation in compositions(sheets)[::5]]
-    return list(dict.fromkeys(found))
-
-
-CASES = [(paper, sequence, all_collations(paper, sequence)) for paper, sequence in cases()]
+CASES = book_cases()
 
 
 def is_run(factors):

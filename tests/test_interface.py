@@ -32,6 +32,16 @@ INTERFACE = {
         "nth_collation": (*BOOK, "index"), "index_of_collation": (*BOOK, "value"),
         "next_collation": (*BOOK, "collation"), "fewest": BOOK, "largest": BOOK,
     },
+    "rests": {"sequence_evidence": BOOK, "accepts_sequence": (*BOOK, "value")},
+    "certainty": {
+        "is_only": BOOK, "reason": BOOK, "share": (*BOOK, "opening"), "sure_boundaries": BOOK, "possible_centers": BOOK,
+        "possibly_conjugate": (*BOOK, "leaf"), "sure_pairs": BOOK,
+    },
+    "grounds": {"only_evidence": BOOK, "accepts_only": (*BOOK, "value")},
+    "copies": {
+        "finest_common": ("copies",), "count_common": ("copies",), "sufficient": ("copies",),
+        "conflict": ("copies", "collation"), "excluded": ("copies", "copy"),
+    },
 }
 ERRORS = {"QuireError": "ValueError", "BadValue": "QuireError", "TooLarge": "QuireError", "NotPossible": "QuireError",
           "TextError": "QuireError"}

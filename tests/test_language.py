@@ -109,7 +109,7 @@ class LanguageTest(unittest.TestCase):
         if any(isinstance(sign, (ast.Is, ast.IsNot)) for sign in node.ops):
             self.assertEqual(len(node.ops), 1)
             other = node.comparators[0]
-            if isinstance(node.left, ast.Call):
+            if isinstance(other, ast.Name):
                 self.assertEqual(node.left.func.id, "type")
                 self.assertIn(other.id, ("int", "str", "tuple", "list"))
             else:
