@@ -14,6 +14,13 @@ def are_between(value, low, high):
     return type(value) is tuple and all([is_between(item, low, high) for item in value])
 
 
+def are_counts(value, many):
+    """Tell whether the value is a tuple of so many integers from 0 on."""
+    if type(value) is not tuple or len(value) != many:
+        return False
+    return all([type(item) is int and item >= 0 for item in value])
+
+
 def is_told(value, word, many):
     """Tell whether the value is a tuple of so many items, of which the word is the first one."""
     return type(value) is tuple and len(value) == many and type(value[0]) is str and value[0] == word

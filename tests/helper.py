@@ -172,6 +172,22 @@ def copies_cases():
     return cases
 
 
+def all_valid_pairs(paper, sequence):
+    """All valid pairs of the sequence: nests, one pair inside the other, side by side."""
+    def grown(begin, end, behind):
+        # The next pair lies inside the last one, or behind the last nest.
+        found = [()]
+        for one in [*range(begin, end), *range(behind, len(sequence))]:
+            inside = one < end
+            for other in range(one + 1, end if inside else len(sequence)):
+                if paper[sequence[one]] == sequence[other]:
+                    more = grown(one + 1, other, behind if inside else other + 1)
+                    found += [((one, other), *pairs) for pairs in more]
+        return found
+
+    return grown(0, 0, 0)
+
+
 def written(value, depth=8):
     """The value as a string in which True is not 1 and a list no tuple."""
     if type(value) not in (tuple, list):

@@ -42,6 +42,16 @@ INTERFACE = {
         "finest_common": ("copies",), "count_common": ("copies",), "sufficient": ("copies",),
         "conflict": ("copies", "collation"), "excluded": ("copies", "copy"),
     },
+    "together": {"common_evidence": ("copies",), "accepts_common": ("copies", "value")},
+    "missing": {
+        "fewest_missing": BOOK, "told_pairs": BOOK, "accepts_pairs": (*BOOK, "value"), "restored": (*BOOK, "pairs"),
+        "paired_with": (*BOOK, "leaf"), "always_paired": BOOK, "never_paired": BOOK,
+    },
+    "nests": {"missing_evidence": BOOK, "accepts_missing": (*BOOK, "many", "value")},
+    "misread": {
+        "fewest_misread": BOOK, "told_way": BOOK, "ways": BOOK, "nearest": BOOK, "doubtful": BOOK,
+        "possible_marks": (*BOOK, "leaf"),
+    },
 }
 ERRORS = {"QuireError": "ValueError", "BadValue": "QuireError", "TooLarge": "QuireError", "NotPossible": "QuireError",
           "TextError": "QuireError"}

@@ -28,8 +28,8 @@ NODES = (
     ast.Module, ast.Expr, ast.Constant, ast.ImportFrom, ast.alias, ast.FunctionDef, ast.ClassDef, ast.arguments,
     ast.arg, ast.Return, ast.Raise, ast.Assign, ast.If, ast.While, ast.For, ast.Break, ast.Continue, ast.BoolOp,
     ast.BinOp, ast.UnaryOp, ast.Compare, ast.Call, ast.Attribute, ast.Subscript, ast.Slice, ast.Name, ast.List,
-    ast.Tuple, ast.Dict, ast.ListComp, ast.comprehension, ast.operator, ast.unaryop, ast.boolop, ast.cmpop,
-    ast.expr_context,
+    ast.Tuple, ast.Dict, ast.ListComp, ast.SetComp, ast.DictComp, ast.comprehension, ast.operator, ast.unaryop,
+    ast.boolop, ast.cmpop, ast.expr_context,
 )
 REFUSED = (ast.Div, ast.Pow, ast.MatMult, ast.Is, ast.IsNot)
 
@@ -103,6 +103,17 @@ class LanguageTest(unittest.TestCase):
                     self.check_comparison(node)
                 if isinstance(node, ast.BinOp):
                     self.assertNotIsInstance(node.op, REFUSED)
+
+    def test_sets_are_made_where_they_are_measured_or_sorted(self):
+        for path, tree in TREES:
+            sets = [node for node in ast.walk(tree) if isinstance(node, ast.SetComp)]
+            sets += [node for node in ast.walk(tree) if isinstance(node, ast.Call) and ast.unparse(node.func) == "set"]
+            used = [
+                node.args[0] for node in ast.walk(tree)
+                if isinstance(node, ast.Call) and ast.unparse(node.func) in ("sorted", "len") and len(node.args) == 1
+            ]
+            for node in sets:
+                self.assertTrue(any(node is argument for argument in used), (path.name, node.lineno))
 
     def check_comparison(self, node):
         """`is` stands beside None, True and False, or between type(x) and a class."""
