@@ -21,6 +21,11 @@ def are_counts(value, many):
     return all([type(item) is int and item >= 0 for item in value])
 
 
+def are_halves(value, many):
+    """Tell whether the value is a tuple of integers from 1 on that together are half of so many."""
+    return are_between(value, 1, many // 2) and 2 * sum(value) == many
+
+
 def is_told(value, word, many):
     """Tell whether the value is a tuple of so many items, of which the word is the first one."""
     return type(value) is tuple and len(value) == many and type(value[0]) is str and value[0] == word

@@ -39,6 +39,16 @@ def counts_behind(paper, sequence):
     return counts
 
 
+def all_collations(paper, sequence):
+    """Return the ascending list of all collations of the sequence."""
+    found = [[] for _ in sequence] + [[()]]
+    for begin in reversed(range(len(sequence))):
+        found[begin] = [
+            ((end - begin) // 2,) + rest for end in fold_ends(paper, sequence, begin) for rest in found[end]
+        ]
+    return found[0]
+
+
 def counts_ahead(paper, sequence):
     """Return, for each opening, the number of the collations of the leaves ahead of it."""
     counts = [1] + [0] * len(sequence)

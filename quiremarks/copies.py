@@ -4,7 +4,7 @@ Several copies are like one sequence each of whose marks tells the marks of all
 of them: leaves are a gathering of it if and only if they are one in each copy.
 """
 
-from quiremarks.checks import are_between, check_between
+from quiremarks.checks import are_halves, check_between
 from quiremarks.collations import counts_behind
 from quiremarks.errors import BadValue
 from quiremarks.factors import split_sheets
@@ -97,8 +97,7 @@ def sufficient(copies):
 def conflict(copies, collation):
     """Return the conflict of the collation with the copies, or None if it is common."""
     check_copies(copies)
-    leaves = len(copies[0][1])
-    if not are_between(collation, 1, leaves // 2) or 2 * sum(collation) != leaves:
+    if not are_halves(collation, len(copies[0][1])):
         raise BadValue("collation")
     for index, (paper, sequence) in enumerate(copies):
         found = misfits_of_all(paper, sequence, collation)

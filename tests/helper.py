@@ -2,7 +2,7 @@
 
 from itertools import permutations, product
 
-from quiremarks.errors import BadValue, NotPossible
+from quiremarks.errors import BadValue, NotPossible, TextError, TooLarge
 
 
 def nested(depth, kind=tuple):
@@ -15,7 +15,6 @@ def nested(depth, kind=tuple):
 
 DEEP = nested(100000)
 DEEP_LIST = nested(100000, list)
-
 
 
 class Anything:
@@ -115,6 +114,15 @@ def is_collatable(paper, leaves, known={}):
             for many in range(2, len(leaves) + 1, 2)
         )
     return known[key]
+
+
+def plain_factors(paper, leaves):
+    """The factors and the remainder of the leaves, in the words of point 7."""
+    for many in range(2, len(leaves) + 1, 2):
+        if folds(paper, leaves[:many]):
+            factors, rest = plain_factors(paper, leaves[many:])
+            return (leaves[:many], *factors), rest
+    return (), leaves
 
 
 PATTERNS = [(2,), (0, 1), (0, 1, 1, 0), (0, 0, 1, 1), (2, 2, 0, 1), (0, 2, 2, 1), (0, 1, 2)]
@@ -231,6 +239,81 @@ def assert_not_possible(case, why, function, arguments):
         case.assertEqual(error.why, why)
         return
     case.fail(f"{function.__name__} found it possible")
+
+
+def assert_too_large(case, what, function, arguments):
+    """The call raises TooLarge with the word."""
+    try:
+        function(*arguments)
+    except TooLarge as error:
+        case.assertEqual(error.what, what)
+        return
+    case.fail(f"{function.__name__} found it not too large")
+
+
+def assert_text_error(case, column, words, function, arguments):
+    """The call raises TextError with the column and the words."""
+    try:
+        function(*arguments)
+    except TextError as error:
+        case.assertEqual((error.column, error.words), (column, words), arguments)
+        return
+    case.fail(f"{function.__name__} took {arguments}")
+
+
+def plain_act(paper, books, command):
+    """What point 134 says of a command: (why, value, books), where why is None if the command is possible."""
+    word, *rest = command
+    if word == "book":
+        return ("books", None, books) if len(books) == 6 else (None, len(books), (*books, rest[0]))
+    book = rest[0]
+    if book not in range(len(books)):
+        return "missing", None, books
+    leaves = list(books[book])
+    if word == "leaf":
+        if len(leaves) == 16:
+            return "full", None, books
+        _, remainder = plain_factors(paper, books[book])
+        leaves.append(rest[1])
+        complete = (*remainder, rest[1])
+        value = complete if folds(paper, complete) else None
+    else:
+        leaf = rest[1]
+        if leaf not in range(len(leaves)):
+            return "missing", None, books
+        value = leaves[leaf]
+        if word == "set":
+            leaves[leaf] = rest[2]
+        else:
+            del leaves[leaf]
+    return None, value, tuple(tuple(leaves) if at == book else other for at, other in enumerate(books))
+
+
+def wrong_commands():
+    """Values that are no commands for the paper (1, 0, 2)."""
+    found = [
+        *OTHER_KINDS, (), "book", "leaf", ("book",), ("leaf", 0), ("set", 0, 0), ("remove", 0), ("undo",), ("Book", ()),
+        ("book", (), ()), ("leaf", 0, 0, 0), ("set", 0, 0, 0, 0), ("remove", 0, 0, 0), ("leaf ", 0, 0), ("", 0, 0),
+        ["book", ()], ["leaf", 0, 0], ["set", 0, 0, 0], ["remove", 0, 0], (("book",), ()), (0, 0, 0), (DEEP, 0, 0),
+        (None, ()), (True, 0, 0), (b"book", ()), (Anything(), ()), (Anything(), 0, 0), (Anything(), 0, 0, 0),
+        ("leaf", (0, 0)), ("book", 0), {"book": ()}, ("insert", 0, 0, 0), ("add", 0, 0), ("remove", 0, 0, 1),
+    ]
+    found += [("book", sequence) for sequence in wrong_sequences((1, 0, 2))]
+    for book in wrong_integers(0, 5):
+        found += [("leaf", book, 0), ("set", book, 0, 0), ("remove", book, 0)]
+    for leaf in wrong_integers(0, 15):
+        found += [("set", 0, leaf, 0), ("remove", 0, leaf)]
+    for mark in wrong_integers(0, 2):
+        found += [("leaf", 0, mark), ("set", 0, 0, mark)]
+    return found
+
+
+def wrong_texts():
+    """Values that are no texts."""
+    found = [value for value in OTHER_KINDS if type(value) is not str]
+    found += [0, 7, b"", b"ab:", ("ab:",), ["ab:"], ["a", "b"], "\n", "a:\n", "\na:", "a\n:", "a: a\n", "1\n", "1\n1"]
+    found += ["a" * 301, " " * 301, "1 " * 150 + " ", "a:" + "a" * 299, "?" * 301, "a" * 100000, "1" * 299 + "\n"]
+    return found + [" " * at + "\n" + " " * (299 - at) for at in range(0, 300, 23)]
 
 
 def wrong_papers():

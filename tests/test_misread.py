@@ -3,9 +3,8 @@ from itertools import product
 
 from helper import (
     all_collations, all_papers, all_renamings, all_sequences, assert_bad, assert_checks, assert_not_possible,
-    compositions, is_collatable, mirror, renamed, renamed_paper, wrong_integers, wrong_papers, wrong_sequences,
+    assert_too_large, compositions, is_collatable, mirror, renamed, renamed_paper, wrong_integers, wrong_papers, wrong_sequences,
 )
-from quiremarks.errors import TooLarge
 from quiremarks.misread import doubtful, fewest_misread, nearest, possible_marks, told_way, ways
 
 PAPER = (1, 0, 2)
@@ -186,15 +185,10 @@ class MisreadTest(unittest.TestCase):
             assert_bad(self, "leaf", possible_marks, [PAPER, (2,) * many, many])
         for sequence in TOO_LONG:
             for function in (fewest_misread, told_way, ways, nearest, doubtful):
-                self.assert_too_large(function, [PAPER, sequence])
-            self.assert_too_large(possible_marks, [PAPER, sequence, len(sequence) - 1])
+                assert_too_large(self, "leaves", function, [PAPER, sequence])
+            assert_too_large(self, "leaves", possible_marks, [PAPER, sequence, len(sequence) - 1])
             assert_bad(self, "leaf", possible_marks, [PAPER, sequence, len(sequence)])
         self.assertEqual(fewest_misread(PAPER, (2,) * 12), 0)
-
-    def assert_too_large(self, function, arguments):
-        with self.assertRaises(TooLarge) as caught:
-            function(*arguments)
-        self.assertEqual(caught.exception.what, "leaves")
 
     def test_wrong_arguments(self):
         wrong = [("paper", wrong_papers()), ("sequence", wrong_sequences(PAPER))]
