@@ -59,6 +59,12 @@ def times_conjugate(gatherings, leaf, other):
     ])
 
 
+def conjugate_leaves(paper, sequence, leaf):
+    """Return the ascending tuple of the leaves to which the leaf is conjugate in some collation."""
+    gatherings = gatherings_of(paper, sequence)
+    return tuple([other for other in range(len(sequence)) if times_conjugate(gatherings, leaf, other) > 0])
+
+
 def is_only(paper, sequence):
     """Tell whether the sequence has just one collation."""
     check_book(paper, sequence)
@@ -98,8 +104,7 @@ def possibly_conjugate(paper, sequence, leaf):
     """Return the ascending tuple of the leaves to which the leaf is conjugate in some collation."""
     check_book(paper, sequence)
     check_between("leaf", leaf, 0, len(sequence) - 1)
-    gatherings = gatherings_of(paper, sequence)
-    return tuple([other for other in range(len(sequence)) if times_conjugate(gatherings, leaf, other) > 0])
+    return conjugate_leaves(paper, sequence, leaf)
 
 
 def sure_pairs(paper, sequence):

@@ -10,6 +10,11 @@ def mirrored(paper, leaves):
     return tuple([paper[mark] for mark in leaves[::-1]])
 
 
+def exchanged(items, place, item):
+    """Return the tuple with another item at the place."""
+    return items[:place] + (item,) + items[place + 1:]
+
+
 def is_fold(paper, leaves):
     """Tell whether the leaves are a gathering."""
     if len(leaves) == 0 or len(leaves) % 2 == 1:

@@ -2,7 +2,7 @@
 
 from quiremarks.checks import check_between
 from quiremarks.errors import NotPossible, TooLarge
-from quiremarks.folds import misfits_of_all
+from quiremarks.folds import exchanged, misfits_of_all
 from quiremarks.papers import check_book
 
 MOST_READ = 12
@@ -32,17 +32,12 @@ def best_ways(paper, sequence):
     return [way for way in all_of if len(misfits_of_all(paper, sequence, way)) == fewest]
 
 
-def with_mark(leaves, leaf, mark):
-    """Return the leaves with this mark at the leaf."""
-    return leaves[:leaf] + (mark,) + leaves[leaf + 1:]
-
-
 def corrected(paper, sequence, way):
     """Return the list of what comes from the way by exchanging one of the two marks at each mismatch."""
     found = [sequence]
     for leaf, other in misfits_of_all(paper, sequence, way):
-        first = [with_mark(leaves, leaf, paper[leaves[other]]) for leaves in found]
-        second = [with_mark(leaves, other, paper[leaves[leaf]]) for leaves in found]
+        first = [exchanged(leaves, leaf, paper[leaves[other]]) for leaves in found]
+        second = [exchanged(leaves, other, paper[leaves[leaf]]) for leaves in found]
         found = first + second
     return found
 

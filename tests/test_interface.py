@@ -8,6 +8,8 @@ from pathlib import Path
 ROOT = Path(__file__).resolve().parent.parent
 BOOK = ("paper", "sequence")
 TWO = ("paper", "first", "second")
+OBSERVED = ("paper", "sequence", "observations")
+COUNTED = ("marks", "sheets")
 INTERFACE = {
     "papers": {
         "is_paper": ("value",), "is_sequence": ("paper", "value"), "reflected": BOOK, "own_marks": ("paper",),
@@ -52,6 +54,28 @@ INTERFACE = {
         "fewest_misread": BOOK, "told_way": BOOK, "ways": BOOK, "nearest": BOOK, "doubtful": BOOK,
         "possible_marks": (*BOOK, "leaf"),
     },
+    "bounds": {"misread_evidence": BOOK, "accepts_misread": (*BOOK, "many", "value")},
+    "threads": {
+        "count_agreeing": OBSERVED, "nearest_collation": OBSERVED, "implied": OBSERVED, "fails_at": OBSERVED,
+        "next_opening": OBSERVED, "looks_of": (*BOOK, "collation"), "accepts_open": (*OBSERVED, "opening", "value"),
+    },
+    "counting": {
+        "count_gatherings": COUNTED, "count_primes": COUNTED, "count_collatable": COUNTED,
+        "count_with_factors": (*COUNTED, "factors"), "count_collations": COUNTED, "count_only": COUNTED,
+    },
+    "scanning": {"scan": ("text",)},
+    "reading": {"next_tokens": ("text", "kind"), "read_book": ("text",), "read_collation": ("text",)},
+    "writing": {"book_text": BOOK, "collation_text": ("collation",)},
+    "journals": {"replayed": ("paper", "journal"), "are_right": ("paper", "records")},
+}
+# For each class, its parameters and those of its methods.
+CLASSES = {
+    "collection": {
+        "Collection": {
+            "__init__": ("paper",), "act": ("command",), "undo": (), "books": (), "journal": (), "factors": ("book",),
+            "partners": ("book", "leaf"), "records": (), "twin": (),
+        },
+    },
 }
 ERRORS = {"QuireError": "ValueError", "BadValue": "QuireError", "TooLarge": "QuireError", "NotPossible": "QuireError",
           "TextError": "QuireError"}
@@ -73,6 +97,18 @@ class InterfaceTest(unittest.TestCase):
                     self.assertEqual(tuple(arg.arg for arg in found.args), parameters)
                     self.assertEqual(found.defaults, [])
                     self.assertTrue(callable(getattr(imported, name)))
+
+    def test_each_class_is_defined_in_its_file_with_its_methods(self):
+        for module, classes in CLASSES.items():
+            defined = top_level(module, ast.ClassDef)
+            imported = importlib.import_module(f"quiremarks.{module}")
+            for name, methods in classes.items():
+                self.assertTrue(isinstance(getattr(imported, name), type))
+                found = {node.name: node.args for node in defined[name].body if isinstance(node, ast.FunctionDef)}
+                for method, parameters in methods.items():
+                    with self.subTest(name=name, method=method):
+                        self.assertEqual(tuple(arg.arg for arg in found[method].args), ("self", *parameters))
+                        self.assertEqual(found[method].defaults, [])
 
     def test_each_error_is_defined_in_errors(self):
         defined = top_level("errors", ast.ClassDef)

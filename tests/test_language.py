@@ -29,7 +29,7 @@ NODES = (
     ast.arg, ast.Return, ast.Raise, ast.Assign, ast.If, ast.While, ast.For, ast.Break, ast.Continue, ast.BoolOp,
     ast.BinOp, ast.UnaryOp, ast.Compare, ast.Call, ast.Attribute, ast.Subscript, ast.Slice, ast.Name, ast.List,
     ast.Tuple, ast.Dict, ast.ListComp, ast.SetComp, ast.DictComp, ast.comprehension, ast.operator, ast.unaryop,
-    ast.boolop, ast.cmpop, ast.expr_context,
+    ast.boolop, ast.cmpop, ast.expr_context, ast.Try, ast.ExceptHandler,
 )
 REFUSED = (ast.Div, ast.Pow, ast.MatMult, ast.Is, ast.IsNot)
 
@@ -172,13 +172,15 @@ class LanguageTest(unittest.TestCase):
                 self.assertRegex(name, "^(_|_?[A-Za-z][A-Za-z0-9_]*)$")
 
     def test_builtins_and_methods(self):
+        classes = [node for _, tree in TREES for node in ast.walk(tree) if isinstance(node, ast.ClassDef)]
+        methods = METHODS | {function.name for node in classes for function in functions_of(node)}
         for path, tree in TREES:
             own = set(defined_in(tree)) | {alias.name for node in imports_of(tree) for alias in node.names}
             for node in ast.walk(tree):
                 if isinstance(node, ast.Name) and node.id in dir(builtins) and node.id not in own:
                     self.assertIn(node.id, BUILTINS, path.name)
                 if isinstance(node, ast.Call) and isinstance(node.func, ast.Attribute):
-                    self.assertIn(node.func.attr, METHODS, path.name)
+                    self.assertIn(node.func.attr, methods, path.name)
 
     def test_text(self):
         for path, _ in TREES:
